@@ -6,6 +6,9 @@ class Yard:
 
     A car's track tells for each of its places, from 0 on, the cells that it stands on there,
     each cell a bit of one whole number: whether two cars meet is then a single `&`.
+    The wanted cars stand in the order in which each was told last.
+    The known moves (None: not looked for yet) are those of each arrangement that can come about. They take the
+    longest to find, and are kept from call to call: what can come about stays the same behind a move and a want.
     """
 
     def __init__(self):
@@ -14,10 +17,19 @@ class Yard:
     def begin(self, rows, columns):
         self.rows = rows
         self.columns = columns
+        self.cars = []
         self.tracks = []
         self.places = ()
         self.wanted = {}
         self.moves_made = 0
+        self.known_moves = None
+
+    def take_in(self, upright, line, length, place):
+        """One car more, which fits and stands on free cells."""
+        self.cars.append((upright, line, length))
+        self.tracks.append(self.new_track(upright, line, length))
+        self.places = self.places + (place,)
+        self.known_moves = None
 
     def many_lines(self, upright):
         return self.columns if upright else self.rows

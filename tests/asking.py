@@ -8,6 +8,10 @@ HIGHEST = 4294967295
 FAR_OUT = (6, 7, 24, 25, 255, 256, 65536, 2147483647, 2147483648, HIGHEST - 1, HIGHEST)
 
 FEWEST = [5]
+PLAN = [6]
+REACH = [7]
+HARDEST = [9]
+STATE = [10]
 
 
 def begins(rows, columns):
@@ -28,6 +32,10 @@ def want(number, place):
 
 def free(number):
     return [4, number]
+
+
+def places(number):
+    return [8, number]
 
 
 def apart(answered):

@@ -1,9 +1,9 @@
-"""Promises 1 to 4 in lists of calls in any order: as the document said again in tests/model.py answers."""
+"""All promises, in lists of calls in any order: as the document said again in tests/model.py answers."""
 
 import random
 import unittest
 
-from tests.asking import FEWEST, HIGHEST, ask, begins, car, free, move, want
+from tests.asking import FEWEST, HARDEST, HIGHEST, PLAN, REACH, STATE, ask, begins, car, free, move, places, want
 from tests.model import model_answers
 
 
@@ -19,7 +19,7 @@ class Chooser:
         return self.random.randint(0, most)
 
     def call(self):
-        which = self.random.randrange(40)
+        which = self.random.randrange(48)
         if which == 0:
             return begins(self.number(6), self.number(6))
         if which < 9:
@@ -28,13 +28,25 @@ class Chooser:
             return move(self.number(4), self.number(4))
         if which < 32:
             return want(self.number(4), self.number(4))
-        if which < 36:
+        if which < 34:
             return free(self.number(4))
-        return FEWEST
+        if which < 36:
+            return places(self.number(4))
+        return self.random.choice((FEWEST, PLAN, PLAN, REACH, HARDEST, HARDEST, STATE, STATE))
 
     def calls(self, many):
         size = self.random.choice(((5, 5), (5, 5), (4, 5), (3, 4), (1, 5), (5, 2), (3, 3)))
         return [begins(*size)] + [self.call() for number in range(many - 1)]
+
+    def close_together(self):
+        """A yard as full of cars as chance has it, one or two of them wanted somewhere, and all that can be asked."""
+        size = self.random.choice(((5, 5), (4, 5), (4, 4), (4, 3)))
+        calls = [begins(*size)]
+        for number in range(30):
+            calls.append(car(self.number(1), self.number(4), self.number(3), self.random.choice((2, 2, 3))))
+        for number in range(self.random.choice((1, 1, 2, 2, 3))):
+            calls.append(want(self.number(4), self.number(3)))
+        return calls + [FEWEST, PLAN, REACH, HARDEST, STATE] + [places(number) for number in range(6)]
 
 
 class AgainstModel(unittest.TestCase):
@@ -46,6 +58,11 @@ class AgainstModel(unittest.TestCase):
     def test_short_lists(self):
         for seed in range(1000, 2500):
             calls = Chooser(seed).calls(12)
+            self.assertEqual(ask(*calls), model_answers(calls), f"seed {seed}")
+
+    def test_cars_close_together(self):
+        for seed in range(3000, 3300):
+            calls = Chooser(seed).close_together()
             self.assertEqual(ask(*calls), model_answers(calls), f"seed {seed}")
 
 
